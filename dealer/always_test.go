@@ -51,6 +51,13 @@ func TestP1NoPanic(t *testing.T) {
 		if a := d.Ask(r); a.Code != api.OK && !same(a, api.Reply{Code: a.Code}) {
 			t.Fatalf("Ask(%+v) = %v", r, a)
 		}
+		if s, e := dealer.Write(r); e == api.OK {
+			d.Serve(s)
+		}
+		if random.IntN(100) == 0 {
+			d.Compact()
+			d.FailAt(anyOf(random))
+		}
 		d.Refill(anyClass(random), make([]uint64, random.IntN(70)))
 		dealer.Print(api.Reply{Code: api.Errno(anyOf(random)), From: anyOf(random), Count: anyOf(random)})
 	}
@@ -65,8 +72,13 @@ func TestP1Restart(t *testing.T) {
 		if d == nil {
 			t.Fatalf("Restart(%v) = nil", files)
 		}
+		lists(t, d)
+		compacts(t, d)
 		refill(t, d, scalar, numbered(0, 2), api.OK)
 		answers(t, d, lease(1, 1, scalar, 2), 0, 2)
+		answers(t, d, release(1, 1), 0, 2)
+		compacts(t, d)
+		lists(t, d, api.Stock{Class: scalar, Made: 2, Leased: 2})
 	}
 }
 
@@ -74,7 +86,11 @@ func TestP1Restart(t *testing.T) {
 func TestP1NothingChanges(t *testing.T) {
 	d := stocked(t, 10)
 	answers(t, d, lease(7, 1, scalar, 4), 0, 4)
+	was := shown(d)
 	for range 3 {
+		refuses(t, d, release(7, 2), api.ErrLease)
+		refuses(t, d, release(8, 1), api.ErrLease)
+		refuses(t, d, release(7, -1), api.ErrMalformed)
 		refuses(t, d, lease(7, 1, scalar, 5), api.ErrConflict)
 		refuses(t, d, lease(7, 2, scalar, 7), api.ErrFew)
 		refuses(t, d, lease(7, 2, scalar, 41), api.ErrCount)
@@ -88,6 +104,9 @@ func TestP1NothingChanges(t *testing.T) {
 		answers(t, d, status(scalar), 4, 10)
 		refuses(t, d, status(bits(1)), api.ErrClass)
 		answers(t, d, fetch(7, scalar, 0, 4, 1), 0, 4, sharesOf(0, 4, 1)...)
+		if shown(d) != was {
+			t.Errorf("errors changed %q to %q", was, shown(d))
+		}
 	}
 	answers(t, d, lease(7, 2, scalar, 6), 4, 6)
 }
@@ -113,13 +132,6 @@ func TestP2DrawsAreNotKept(t *testing.T) {
 	}
 }
 
-// spoil writes into a list and into its spare room.
-func spoil(words []uint64) {
-	for i := range words[:cap(words)] {
-		words[:cap(words)][i] = 0xdead
-	}
-}
-
 func TestP2AnswersAreNew(t *testing.T) {
 	d := stocked(t, 12)
 	answers(t, d, lease(1, 1, scalar, 6), 0, 6)
@@ -128,8 +140,8 @@ func TestP2AnswersAreNew(t *testing.T) {
 		for party := range 2 {
 			kept := d.Ask(fetch(1, scalar, 0, count, party))
 			again := d.Ask(fetch(1, scalar, 0, count, party))
-			spoil(d.Ask(fetch(1, scalar, 0, count, party)).Words)
-			spoil(again.Words)
+			overwrite(d.Ask(fetch(1, scalar, 0, count, party)).Words, 0xdead)
+			overwrite(again.Words, 0xdead)
 			if !slices.Equal(kept.Words, sharesOf(0, count, party)) {
 				t.Errorf("two answers share room: %v", kept.Words)
 			}
@@ -137,6 +149,38 @@ func TestP2AnswersAreNew(t *testing.T) {
 	}
 	for party := range 2 {
 		answers(t, d, fetch(1, scalar, 0, 12, party), 0, 12, sharesOf(0, 12, party)...)
+	}
+}
+
+// overwrite writes into a list and into its spare room.
+func overwrite[T any](list []T, with T) {
+	for i := range list[:cap(list)] {
+		list[:cap(list)][i] = with
+	}
+}
+
+// TestP2ListsAreNew: Classes, Leases and Disk hand out lists that are the caller's.
+func TestP2ListsAreNew(t *testing.T) {
+	d := stocked(t, 12)
+	for i := range 5 {
+		answers(t, d, lease(1, i, scalar, 2), 2*i, 2)
+		was, classes, leases, ops := shown(d), slices.Clone(d.Classes()), slices.Clone(d.Leases()), slices.Clone(d.Disk())
+		overwrite(d.Classes(), api.Stock{Made: 99})
+		overwrite(d.Leases(), api.Lease{Session: 99})
+		overwrite(d.Disk(), api.Op{Name: "99"})
+		if shown(d) != was || !slices.Equal(d.Disk(), ops) {
+			t.Fatal("the dealer hangs on lists that came out of it")
+		}
+		if !slices.Equal(d.Classes(), classes) || !slices.Equal(d.Leases(), leases) {
+			t.Fatal("two lists share room")
+		}
+	}
+	// What is done later is not to be seen in a list that came out earlier.
+	classes, leases, ops := d.Classes(), d.Leases(), d.Disk()
+	answers(t, d, release(1, 0), 0, 2)
+	compacts(t, d)
+	if classes[0].Kept != 12 || leases[0].Released || slices.Equal(d.Disk(), ops) {
+		t.Error("a list changed in the caller's hands")
 	}
 }
 

@@ -37,37 +37,36 @@ func Print(r api.Reply) string { return wire.Print(r) }
 func Open() *Dealer { return &Dealer{} }
 
 // Restart makes a dealer out of what a disk holds (P10).
-func Restart(files []api.File) *Dealer {
-	// Nothing is on a disk so far; a dealer it must be all the same, for its methods are called.
-	return Open()
-}
+func Restart(files []api.File) *Dealer { return &Dealer{store: store.Restart(files)} }
 
 // Refill makes triples out of draws (P5).
 func (d *Dealer) Refill(c api.Class, draws []uint64) api.Errno { return d.store.Refill(c, draws) }
 
 // Ask answers a request (P6).
-func (d *Dealer) Ask(r api.Request) api.Reply {
-	own, e := wire.Check(r)
+func (d *Dealer) Ask(r api.Request) api.Reply { return d.answer(wire.Check(r)) }
+
+// Serve answers a request that is bytes (P7).
+func (d *Dealer) Serve(s string) string { return wire.Print(d.answer(wire.Read(s))) }
+
+// Compact forgets shares that nobody may have any more (P8).
+func (d *Dealer) Compact() api.Errno { return d.store.Compact() }
+
+// Classes lists the classes (P8).
+func (d *Dealer) Classes() []api.Stock { return d.store.Classes() }
+
+// Leases lists the leases (P8).
+func (d *Dealer) Leases() []api.Lease { return d.store.Leases() }
+
+// FailAt lets a disk operation fail (P9).
+func (d *Dealer) FailAt(n int) { d.store.FailAt(n) }
+
+// Disk lists the operations that were done (P9).
+func (d *Dealer) Disk() []api.Op { return d.store.Disk() }
+
+// answer answers a request that was read, or an error of reading it.
+func (d *Dealer) answer(r wire.Request, e api.Errno) api.Reply {
 	if e != api.OK {
 		return api.Reply{Code: e}
 	}
-	return d.store.Answer(own)
+	return d.store.Answer(r)
 }
-
-// Serve answers a request that is bytes (P7).
-func (d *Dealer) Serve(s string) string { return "" }
-
-// Compact forgets shares that nobody may have any more (P8).
-func (d *Dealer) Compact() api.Errno { return api.OK }
-
-// Classes lists the classes (P8).
-func (d *Dealer) Classes() []api.Stock { return nil }
-
-// Leases lists the leases (P8).
-func (d *Dealer) Leases() []api.Lease { return nil }
-
-// FailAt lets a disk operation fail (P9).
-func (d *Dealer) FailAt(n int) {}
-
-// Disk lists the operations that were done (P9).
-func (d *Dealer) Disk() []api.Op { return nil }

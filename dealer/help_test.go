@@ -106,3 +106,18 @@ func refuses(t *testing.T, d *dealer.Dealer, r api.Request, e api.Errno) {
 		t.Errorf("Ask(%+v) = %v, want the Code %d alone", r, a, e)
 	}
 }
+
+// lists checks what Classes tells.
+func lists(t *testing.T, d *dealer.Dealer, want ...api.Stock) {
+	t.Helper()
+	if l := d.Classes(); !slices.Equal(l, want) {
+		t.Errorf("Classes() = %v, want %v", l, want)
+	}
+}
+
+func compacts(t *testing.T, d *dealer.Dealer) {
+	t.Helper()
+	if e := d.Compact(); e != api.OK {
+		t.Fatalf("Compact() = %d", e)
+	}
+}

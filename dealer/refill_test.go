@@ -14,7 +14,7 @@ func TestP5Open(t *testing.T) {
 		t.Fatal("Open() = nil")
 	}
 	if len(d.Classes()) != 0 || len(d.Leases()) != 0 || len(d.Disk()) != 0 {
-		t.Errorf("a new dealer has the classes %v, the leases %v, the operations %v", d.Classes(), d.Leases(), d.Disk())
+		t.Errorf("a new dealer has the classes %v, the leases %v, the operations %#v", d.Classes(), d.Leases(), d.Disk())
 	}
 	refuses(t, d, status(scalar), api.ErrClass)
 }

@@ -1,22 +1,27 @@
-// Package store: the triples that are made, and to whom they are leased.
+// Package store: the triples that are made, and to whom they are leased, here and on a disk.
 package store
 
 import (
+	"maps"
+	"slices"
+
 	"dealer/api"
+	"dealer/journal"
 	"dealer/triple"
 )
 
 // Store keeps triples and leases.
 type Store struct {
-	stocks []*stock // in the order in which the classes were first refilled
-	leases []api.Lease
+	stocks  []*stock // in the order in which the classes were first refilled
+	leases  []api.Lease
+	journal journal.Journal
 }
 
 // stock: the triples of one class. Those numbered below leased are leased.
 type stock struct {
 	class        api.Class
 	made, leased int
-	shares       map[int]triple.Shares // by the triple's number
+	shares       map[int]triple.Shares // by the triple's number; without those that are forgotten
 }
 
 // Refill makes triples out of draws.
@@ -29,24 +34,81 @@ func (s *Store) Refill(c api.Class, draws []uint64) api.Errno {
 	if len(draws)%each != 0 || count < 1 || count > api.MaxRefill {
 		return api.ErrDraws
 	}
-	if !s.hasRoom(c, count) {
-		return api.ErrFull
-	}
-	k := s.stockFor(c)
+	m := making{class: c}
 	for i := range count {
-		k.shares[k.made] = triple.Make(c, draws[i*each:(i+1)*each])
-		k.made++
+		m.triples = append(m.triples, triple.Make(c, draws[i*each:(i+1)*each]))
 	}
+	return s.do(m)
+}
+
+// Compact forgets the shares of triples of released leases, here and on the disk.
+func (s *Store) Compact() api.Errno {
+	next := s.compacted()
+	if next.kept() == s.kept() {
+		return api.OK
+	}
+	// Not by a record behind the others: what is forgotten must not stay in the file.
+	if !s.journal.Replace(next.records()) {
+		return api.ErrDisk
+	}
+	s.stocks = next.stocks
 	return api.OK
 }
 
-// hasRoom tells whether so many triples more of a class may be made.
-func (s *Store) hasRoom(c api.Class, count int) bool {
-	k := s.find(c)
-	if k == nil {
-		return len(s.stocks) < api.MaxClasses && count <= api.MaxMade
+// compacted is a copy of what the store keeps, without what Compact forgets.
+func (s *Store) compacted() *Store {
+	next := &Store{leases: s.leases}
+	for _, k := range s.stocks {
+		own := *k
+		own.shares = maps.Clone(k.shares)
+		next.stocks = append(next.stocks, &own)
 	}
-	return k.made+count <= api.MaxMade
+	for _, l := range s.leases {
+		if l.Released {
+			next.forget(l)
+		}
+	}
+	return next
+}
+
+func (s *Store) forget(l api.Lease) {
+	k := s.find(l.Class)
+	for i := range l.Count {
+		delete(k.shares, l.From+i)
+	}
+}
+
+// kept is of how many triples the shares are kept.
+func (s *Store) kept() int {
+	sum := 0
+	for _, k := range s.stocks {
+		sum += len(k.shares)
+	}
+	return sum
+}
+
+// Classes lists the classes, in the order in which they were first refilled.
+func (s *Store) Classes() []api.Stock {
+	var list []api.Stock
+	for _, k := range s.stocks {
+		list = append(list, api.Stock{Class: k.class, Made: k.made, Leased: k.leased, Kept: len(k.shares)})
+	}
+	return list
+}
+
+// Leases lists the leases, in the order in which they were made.
+func (s *Store) Leases() []api.Lease {
+	return slices.Clone(s.leases)
+}
+
+// FailAt lets the operation on the disk fail that comes behind n more; none, if n is below 0.
+func (s *Store) FailAt(n int) {
+	s.journal.FailAt(n)
+}
+
+// Disk lists the operations that were done on the disk.
+func (s *Store) Disk() []api.Op {
+	return s.journal.Done()
 }
 
 // find gives the stock of a class; nil, if there are no triples of it.
@@ -67,4 +129,24 @@ func (s *Store) stockFor(c api.Class) *stock {
 		s.stocks = append(s.stocks, k)
 	}
 	return k
+}
+
+// named gives the lease of a Session and an Id; nil, if there is none.
+func (s *Store) named(session, id int) *api.Lease {
+	for i, l := range s.leases {
+		if l.Session == session && l.Id == id {
+			return &s.leases[i]
+		}
+	}
+	return nil
+}
+
+// leaseOf gives the lease that a triple is one of; nil, if it is not leased.
+func (s *Store) leaseOf(c api.Class, number int) *api.Lease {
+	for i, l := range s.leases {
+		if l.Class == c && l.From <= number && number < l.From+l.Count {
+			return &s.leases[i]
+		}
+	}
+	return nil
 }

@@ -24,6 +24,9 @@ func TestAnswerByType(t *testing.T) {
 	if a := s.Answer(&wire.Status{Class: scalar}); a.From != 1 || a.Count != 2 {
 		t.Errorf("the status is answered %v", a)
 	}
+	if a := s.Answer(&wire.Release{Session: 7, Id: 1}); a.Code != api.OK || a.From != 0 || a.Count != 1 || !s.leases[0].Released {
+		t.Errorf("the release is answered %v", a)
+	}
 }
 
 // TestOneNameOneLease: a request that comes again leaves one lease, and one that is refused leaves none.

@@ -23,8 +23,14 @@ func IsClass(c api.Class) bool {
 
 // Draws is how many draws a triple of the class takes.
 func Draws(c api.Class) int {
+	a, b, _ := shapeOf(c).lengths()
+	return a + b + Words(c)
+}
+
+// Words is how many words the shares of one party of a triple of the class are.
+func Words(c api.Class) int {
 	a, b, product := shapeOf(c).lengths()
-	return a + b + a + b + product
+	return a + b + product
 }
 
 func isSide(n int) bool {

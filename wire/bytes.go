@@ -1,12 +1,15 @@
 package wire
 
-import "dealer/api"
+import (
+	"dealer/api"
+	"dealer/number"
+)
 
 // Write writes a request that Check or Read gave as bytes.
 func Write(r Request) string {
 	b := []byte{byte(r.Plain().Kind)}
 	for _, f := range r.fields() {
-		b = put(b, uint64(*f.at), f.size)
+		b = number.Put(b, uint64(*f.at), f.size)
 	}
 	return string(b)
 }
@@ -26,11 +29,11 @@ func Read(s string) (Request, api.Errno) {
 // Print writes a reply as bytes.
 func Print(r api.Reply) string {
 	b := make([]byte, 0, 9+8*len(r.Words))
-	b = put(b, uint64(r.Code), 1)
-	b = put(b, uint64(r.From), 4)
-	b = put(b, uint64(r.Count), 4)
+	b = number.Put(b, uint64(r.Code), 1)
+	b = number.Put(b, uint64(r.From), 4)
+	b = number.Put(b, uint64(r.Count), 4)
 	for _, word := range r.Words {
-		b = put(b, word, 8)
+		b = number.Put(b, word, 8)
 	}
 	return string(b)
 }
@@ -41,7 +44,7 @@ func fill(fields []field, s string) bool {
 		if len(s) < f.size {
 			return false
 		}
-		n := take(s[:f.size])
+		n := number.Take(s[:f.size])
 		// Held against the most ahead of the conversion: an int may have no more than 32 bits.
 		if n > uint64(f.most) {
 			return false
@@ -50,21 +53,4 @@ func fill(fields []field, s string) bool {
 		s = s[f.size:]
 	}
 	return s == ""
-}
-
-// put appends the lowest bytes of n, as many as size says, the highest of them first.
-func put(b []byte, n uint64, size int) []byte {
-	for i := size - 1; i >= 0; i-- {
-		b = append(b, byte(n>>(8*i)))
-	}
-	return b
-}
-
-// take reads a number whose highest byte stands first.
-func take(s string) uint64 {
-	var n uint64
-	for i := range len(s) {
-		n = n<<8 | uint64(s[i])
-	}
-	return n
 }
