@@ -55,7 +55,8 @@ func (s *Store) Compact() api.Errno {
 	return api.OK
 }
 
-// compacted is a copy of what the store keeps, without what Compact forgets.
+// compacted is a copy of what the store keeps, without what Compact forgets. Not the store itself: if the disk fails,
+// nothing is forgotten.
 func (s *Store) compacted() *Store {
 	next := &Store{leases: s.leases}
 	for _, k := range s.stocks {
